@@ -1,0 +1,117 @@
+"""The names, arguments and places of definition that the document lists."""
+
+import importlib
+import inspect
+import unittest
+
+FUNCTIONS = {
+    "words": [
+        "is_name(value)", "is_standing(value)", "is_place(value)", "is_number(value, least, most)", "is_key(value)",
+        "is_account(value)", "account_of(standing)", "number_in(text)",
+    ],
+    "worths": ["met(*rows)", "joined(*rows)"],
+    "weektexts": ["week_text(week)", "read_week(text)", "read_head(text)"],
+    "plans": [
+        "steps_cost(web, steps)", "is_way(plan, steps, start, end)", "is_ring(plan, steps)", "turned(plan, ring, many=1)",
+    ],
+}
+CLASSES = {
+    "worths.Worths": [
+        "__init__(self, worths)", "worth(self, place)", "standings(self)", "worths(self)", "__and__(self, other)",
+        "__or__(self, other)", "between(self, other)", "is_below(self, other)", "part(self, since)",
+        "__eq__(self, other)", "__len__(self)", "__repr__(self)",
+    ],
+    "lands.Land": [
+        "__init__(self, last, top, yards, *, roads=())", "yards(self)", "roads(self)", "yard(self, name)",
+        "standings(self, since=0)", "has(self, standing)", "__eq__(self, other)", "__len__(self)", "__repr__(self)",
+    ],
+    "askings.Asking": ["__init__(self, name, owner, crews, price, rank)"],
+    "askings.Work": [
+        "__init__(self, name, owner, start, end, crews, price, *, rank=0)", "with_terms(self, crews, price)",
+        "text(self)", "__eq__(self, other)", "__repr__(self)",
+    ],
+    "askings.Hire": [
+        "__init__(self, name, owner, end, crews, price, *, rank=0)", "with_terms(self, crews, price)", "text(self)",
+        "__eq__(self, other)", "__repr__(self)",
+    ],
+    "webs.Web": [
+        "__init__(self, land, askings=(), *, given=(), since=0)", "askings(self)", "asking(self, name)", "given(self)",
+        "given_at(self, standing)", "standings(self)", "places(self)", "owners(self)", "line_keys(self)",
+        "line_sheet(self, key)", "line_sheets(self)", "lines_from(self, place)", "lines_to(self, place)",
+        "has_line(self, key)", "with_asking(self, asking)", "without(self, name)", "with_given(self, standing, many)",
+        "of_owners(self, owners)", "__eq__(self, other)", "__len__(self)", "__repr__(self)",
+    ],
+    "weeks.Week": [
+        "__init__(self, land, askings=(), *, given=())", "askings(self)", "asking(self, name)", "given(self)",
+        "given_at(self, standing)", "ask(self, asking)", "withdraw(self, name)", "change(self, name, crews, price)",
+        "give(self, standing, many)", "as_web(self, since=0)", "text(self)", "read(text)", "__contains__(self, name)",
+        "twin(self)", "__eq__(self, other)", "__len__(self)", "__repr__(self)",
+    ],
+    "plans.Plan": [
+        "__init__(self, web, amounts)", "amounts(self)", "amount(self, key)", "rest_steps(self)", "__eq__(self, other)",
+        "__len__(self)", "__repr__(self)",
+    ],
+}
+PROPERTIES = {"plans.Plan": ["gain", "begun"]}
+
+
+def module_of(name):
+    return importlib.import_module(f"standworth.{name}")
+
+
+def class_of(path):
+    module, name = path.split(".")
+    return getattr(module_of(module), name)
+
+
+class InterfaceTest(unittest.TestCase):
+    def test_functions(self):
+        for module, signatures in FUNCTIONS.items():
+            for signature in signatures:
+                name = signature.split("(")[0]
+                function = getattr(module_of(module), name)
+                self.assertEqual(f"{name}{inspect.signature(function)}", signature)
+                self.assertEqual(function.__module__, f"standworth.{module}")
+
+    def test_classes(self):
+        for path, signatures in CLASSES.items():
+            made = class_of(path)
+            self.assertEqual(f"{made.__module__}.{made.__name__}", f"standworth.{path}")
+            for signature in signatures:
+                name = signature.split("(")[0]
+                self.assertIn(name, vars(made), path)
+                found = str(inspect.signature(getattr(made, name)))
+                self.assertEqual(f"{path}.{name}{found}", f"{path}.{signature}")
+
+    def test_properties(self):
+        for path, names in PROPERTIES.items():
+            for name in names:
+                self.assertIsInstance(vars(class_of(path))[name], property)
+
+    def test_kinds_of_methods_and_classes(self):
+        self.assertIsInstance(vars(class_of("weeks.Week"))["read"], staticmethod)
+        asking = class_of("askings.Asking")
+        self.assertEqual(class_of("askings.Work").__bases__, (asking,))
+        self.assertEqual(class_of("askings.Hire").__bases__, (asking,))
+
+    def test_the_order_of_modules(self):
+        """Each listed module needs only those above it, and modules that are not listed."""
+        order = ["errors", "words", "worths", "lands", "askings", "webs", "weeks", "weektexts", "plans"]
+        for at, name in enumerate(order):
+            needed = self.all_needed(name)
+            self.assertEqual([other for other in order[at + 1:] if other in needed], [])
+
+    def all_needed(self, name):
+        needed, open_names = set(), [name]
+        while open_names:
+            for line in inspect.getsource(module_of(open_names.pop())).split("\n"):
+                if line.startswith("from standworth."):
+                    other = line.split(" ")[1].split(".")[1]
+                    if other not in needed:
+                        needed.add(other)
+                        open_names.append(other)
+        return needed
+
+
+if __name__ == "__main__":
+    unittest.main()
