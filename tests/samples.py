@@ -1,6 +1,7 @@
 """Lands, askings, webs, weeks and odd values that several tests use."""
 
 import random
+import unittest
 
 from standworth.askings import Hire, Work
 from standworth.lands import Land
@@ -91,6 +92,16 @@ def odd_values():
 def told_by(error):
     """What an error tells in its attributes other than code, as text, so that True is not 1."""
     return [repr(value) for name, value in vars(error).items() if name != "code"]
+
+
+class Raising(unittest.TestCase):
+    """A test with a short form of asking for an error."""
+
+    def raises(self, error, told, call):
+        """A call raises an error that tells these values."""
+        with self.assertRaises(error) as caught:
+            call()
+        self.assertEqual(told_by(caught.exception), [repr(value) for value in told])
 
 
 def is_one_of(value, values):

@@ -2,12 +2,13 @@ import unittest
 
 from standworth.askings import Asking, Hire, Work
 from standworth.errors import InvalidName, InvalidNumber, InvalidStanding
-from tests.samples import is_one_of, odd_values, told_by, wide_askings
+from tests.samples import Raising, is_one_of, odd_values, wide_askings
 
 
 def work(**other):
     told = {
-        "name": "dig", "owner": "ann", "start": ("quay", 1), "end": ("hill", 3), "crews": 3, "price": 5, "rank": 7, **other,
+        "name": "dig", "owner": "ann", "start": ("quay", 1), "end": ("hill", 3), "crews": 3, "price": 5, "rank": 7,
+        **other,
     }
     return Work(**told)
 
@@ -17,12 +18,7 @@ def hire(**other):
     return Hire(**told)
 
 
-class AskingsTest(unittest.TestCase):
-    def raises(self, error, value, call):
-        with self.assertRaises(error) as caught:
-            call()
-        self.assertEqual(told_by(caught.exception), [repr(value)])
-
+class AskingsTest(Raising):
     def test_attributes_of_a_work(self):
         made = Work("dig", "ann", ("quay", 1), ("hill", 3), 3, 5, rank=7)
         self.assertEqual((made.name, made.owner, made.crews, made.price, made.rank), ("dig", "ann", 3, 5, 7))
@@ -55,27 +51,27 @@ class AskingsTest(unittest.TestCase):
     def test_numbers_one_beyond(self):
         for make in (work, hire):
             for told in [{"crews": 0}, {"crews": 100}, {"price": -1}, {"price": 1000}, {"rank": -1}, {"rank": 100}]:
-                self.raises(InvalidNumber, list(told.values())[0], lambda: make(**told))
+                self.raises(InvalidNumber, [list(told.values())[0]], lambda: make(**told))
 
     def test_wrong_values_of_any_kind(self):
         for value in odd_values():
             for make in (work, hire):
                 for field in ("name", "owner"):
                     if value != "quay":
-                        self.raises(InvalidName, value, lambda: make(**{field: value}))
+                        self.raises(InvalidName, [value], lambda: make(**{field: value}))
                 if not is_one_of(value, [1, 8, 9]):
-                    self.raises(InvalidNumber, value, lambda: make(crews=value))
+                    self.raises(InvalidNumber, [value], lambda: make(crews=value))
                 if not is_one_of(value, [0, 1, 8, 9]):
-                    self.raises(InvalidNumber, value, lambda: make(price=value))
-                    self.raises(InvalidNumber, value, lambda: make(rank=value))
+                    self.raises(InvalidNumber, [value], lambda: make(price=value))
+                    self.raises(InvalidNumber, [value], lambda: make(rank=value))
             if not is_one_of(value, [("quay", 1), ("far", 0)]):
-                self.raises(InvalidStanding, value, lambda: work(start=value))
-                self.raises(InvalidStanding, value, lambda: work(end=value))
-                self.raises(InvalidStanding, value, lambda: hire(end=value))
+                self.raises(InvalidStanding, [value], lambda: work(start=value))
+                self.raises(InvalidStanding, [value], lambda: work(end=value))
+                self.raises(InvalidStanding, [value], lambda: hire(end=value))
 
     def test_a_work_ends_at_a_later_hour(self):
         for end in [("quay", 1), ("hill", 1), ("hill", 0), ("quay", True)]:
-            self.raises(InvalidStanding, end, lambda: work(end=end))
+            self.raises(InvalidStanding, [end], lambda: work(end=end))
         self.assertEqual(work(end=("hill", 2)).end, ("hill", 2))
         self.assertEqual(work(end=("quay", 2)).end, ("quay", 2))
 
@@ -87,10 +83,10 @@ class AskingsTest(unittest.TestCase):
         ]
         for at, (_, value, error) in enumerate(wrong):
             told = {field: other for field, other, _ in wrong[at:]}
-            self.raises(error, value, lambda: work(**told))
+            self.raises(error, [value], lambda: work(**told))
             if wrong[at][0] != "start":
                 told.pop("start", None)
-                self.raises(error, value, lambda: hire(**told))
+                self.raises(error, [value], lambda: hire(**told))
 
     def test_other_terms(self):
         for made in (work(), hire()):
@@ -99,9 +95,9 @@ class AskingsTest(unittest.TestCase):
             self.assertEqual(other.fee, 8 if isinstance(made, Hire) else -8)
             self.assertTrue(other.with_terms(3, 5) == made)
             for value in (0, 100, True, None, "1"):
-                self.raises(InvalidNumber, value, lambda: made.with_terms(value, -1))
+                self.raises(InvalidNumber, [value], lambda: made.with_terms(value, -1))
             for value in (-1, 1000, False, [], ()):
-                self.raises(InvalidNumber, value, lambda: made.with_terms(1, value))
+                self.raises(InvalidNumber, [value], lambda: made.with_terms(1, value))
             self.assertTrue(made.with_terms(3, 5) == made)
 
     def test_text(self):

@@ -12,7 +12,8 @@ FUNCTIONS = {
     "worths": ["met(*rows)", "joined(*rows)"],
     "weektexts": ["week_text(week)", "read_week(text)", "read_head(text)"],
     "plans": [
-        "steps_cost(web, steps)", "is_way(plan, steps, start, end)", "is_ring(plan, steps)", "turned(plan, ring, many=1)",
+        "steps_cost(web, steps)", "is_way(plan, steps, start, end)", "is_ring(plan, steps)",
+        "turned(plan, ring, many=1)",
     ],
 }
 CLASSES = {

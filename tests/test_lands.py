@@ -2,18 +2,13 @@ import unittest
 
 from standworth.errors import InvalidNumber, InvalidRoad, InvalidYard, TooMany, UnknownName
 from standworth.lands import Land
-from tests.samples import WIDE_ROADS, WIDE_YARDS, is_one_of, odd_values, small_land, told_by, wide_land
+from tests.samples import WIDE_ROADS, WIDE_YARDS, Raising, is_one_of, odd_values, small_land, wide_land
 
 QUAY = ("quay", 0, None)
 HILL = ("hill", 5, 3)
 
 
-class LandTest(unittest.TestCase):
-    def raises(self, error, told, call):
-        with self.assertRaises(error) as caught:
-            call()
-        self.assertEqual(told_by(caught.exception), [repr(value) for value in told])
-
+class LandTest(Raising):
     def test_last_hour(self):
         for last in (0, 8):
             self.assertEqual(Land(last, 1, [QUAY]).last, last)
@@ -66,7 +61,7 @@ class LandTest(unittest.TestCase):
             ("hill", "quay", 0, 0), ("hill", "quay", 9, 0), ("hill", "quay", 1, -1), ("hill", "quay", 1, 1000),
             ("hill", "quay", True, 0), ("hill", "quay", 1, False), ("hill", "hill", 1, 0), ("hill", "far", 1, 0),
             ("far", "hill", 1, 0), ("hill", "quay", 1), ("hill", "quay", 1, 0, 0), ["hill", "quay", 1, 0],
-            ("quay", "hill", 2, 3), good, (["hill"], "quay", 1, 0), ("hill", None, 1, 0),
+            ("quay", "hill", 2, 3), good, (["hill"], "quay", 1, 0), ("hill", ["quay"], 1, 0), ("hill", None, 1, 0),
         ]
         for value in wrong + odd_values():
             self.raises(InvalidRoad, [1], lambda: Land(1, 1, [QUAY, HILL], roads=[good, value]))
@@ -119,6 +114,7 @@ class LandTest(unittest.TestCase):
         ])
         self.assertEqual(land.standings(2), [("hill", 2), ("quay", 2)])
         self.assertEqual(land.standings(since=3), [])
+        self.assertEqual(land.standings(-1), land.standings())
         self.assertEqual(wide_land().standings(), sorted((yard[0], hour) for yard in WIDE_YARDS for hour in range(9)))
         self.assertEqual(Land(0, 1, [QUAY]).standings(), [("quay", 0)])
 
@@ -136,8 +132,10 @@ class LandTest(unittest.TestCase):
         yards = [("quay", 1, 4), ("hill", 0, None)]
         others = [
             Land(1, 10, yards, roads=[road]), Land(2, 11, yards, roads=[road]), Land(2, 10, yards),
-            Land(2, 10, [("quay", 1, None), yards[1]], roads=[road]), Land(2, 10, yards, roads=[("quay", "hill", 1, 3)]),
-            Land(2, 10, yards + [("far", 0, 1)], roads=[road]), Land(2, 10, yards, roads=[road, ("hill", "quay", 1, 2)]),
+            Land(2, 10, [("quay", 1, None), yards[1]], roads=[road]),
+            Land(2, 10, yards + [("far", 0, 1)], roads=[road]),
+            Land(2, 10, yards, roads=[("quay", "hill", 1, 3)]),
+            Land(2, 10, yards, roads=[road, ("hill", "quay", 1, 2)]),
         ]
         for other in others + odd_values():
             self.assertIs(small_land() == other, False)

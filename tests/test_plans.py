@@ -7,7 +7,7 @@ from standworth.lands import Land
 from standworth.plans import Plan, is_ring, is_way, steps_cost, turned
 from standworth.webs import Web
 from tests.samples import (
-    is_one_of, odd_values, random_plan, small_askings, small_land, small_web, told_by, wide_land, wide_web,
+    Raising, is_one_of, odd_values, random_plan, small_askings, small_land, small_web, wide_land, wide_web,
 )
 
 # A crew is given at the hill and one is called away at the quay (see small_web).
@@ -44,12 +44,7 @@ def random_walk(plan, luck, start, most):
     return steps, visited
 
 
-class PlanTest(unittest.TestCase):
-    def raises(self, error, told, call):
-        with self.assertRaises(error) as caught:
-            call()
-        self.assertEqual(told_by(caught.exception), [repr(value) for value in told])
-
+class PlanTest(Raising):
     def test_a_small_plan(self):
         web = small_web()
         plan = Plan(web, SMALL)
@@ -77,7 +72,8 @@ class PlanTest(unittest.TestCase):
     def test_empty_plans(self):
         for land in (small_land(), wide_land()):
             plan = Plan(Web(land), {})
-            self.assertEqual((plan.gain, plan.begun, plan.amounts(), len(plan), repr(plan)), (0, 0, {}, 0, "Plan(gain 0)"))
+            self.assertEqual((plan.gain, plan.begun, plan.amounts(), len(plan)), (0, 0, {}, 0))
+            self.assertEqual(repr(plan), "Plan(gain 0)")
             self.assertIs(bool(plan), True)
         plan = Plan(Web(small_land(), since=3), {})
         self.assertEqual((plan.rest_steps(), plan.gain, plan.begun), ([], 0, 0))
@@ -192,15 +188,17 @@ class StepsTest(unittest.TestCase):
         self.assertEqual(steps_cost(web, []), 0)
         self.assertEqual(steps_cost(web, ()), 0)
         self.assertEqual(steps_cost(web, [(("buy", "quay", 0), 1)]), 10)
-        self.assertEqual(steps_cost(web=web, steps=((("work", "dig"), 1), (("work", "mow"), -1), (("hire", "men"), 1))), -6 + 9 + 3)
+        steps = ((("work", "dig"), 1), (("work", "mow"), -1), (("hire", "men"), 1))
+        self.assertEqual(steps_cost(web=web, steps=steps), -6 + 9 + 3)
         self.assertEqual(steps_cost(web, [(("work", "dig"), 1)] * 2 + [(("walk", "quay", "hill", 0), -1)]), -14)
 
     def test_wrong_steps(self):
         web = small_web()
         good = (("work", "dig"), 1)
         wrong = [
-            (("work", "dig"), 0), (("work", "dig"), 2), (("work", "dig"), -2), (("work", "dig"), True), (("work", "dig"), "1"),
-            [("work", "dig"), 1], (("work", "dig"),), (("work", "dig"), 1, 1), ("work", "dig"), (("work", "far"), 1),
+            (("work", "dig"), 0), (("work", "dig"), 2), (("work", "dig"), -2), (("work", "dig"), True),
+            (("work", "dig"), "1"), [("work", "dig"), 1], (("work", "dig"),), (("work", "dig"), 1, 1), ("work", "dig"),
+            (("work", "far"), 1),
             (("buy", "quay", True), 1), (("buy", "quay", 3), 1), (["work", "dig"], 1), (("walk", "hill", "quay", 0), 1),
         ]
         for value in odd_values():
@@ -233,7 +231,8 @@ class WayTest(unittest.TestCase):
     def test_no_ways(self):
         ways = [
             ([(("free", "quay", 2), -1), (("work", "dig"), -1), (("hire", "men"), -1)], (), ()),
-            ([], (), ("quay", 0)), ([(("buy", "quay", 0), 1)], (), ("quay", 1)), ([(("buy", "quay", 0), 1)], ("quay", 0), ()),
+            ([], (), ("quay", 0)), ([(("buy", "quay", 0), 1)], (), ("quay", 1)),
+            ([(("buy", "quay", 0), 1)], ("quay", 0), ()),
             ([(("buy", "quay", 0), 1)], ("quay", 1), ("quay", 0)),
             ([(("buy", "quay", 0), -1)], ("quay", 0), ()), ([(("hire", "men"), 1)], (), ("quay", 0)),
             ([(("work", "mow"), 1)], ("hill", 1), ("quay", 2)),
@@ -261,6 +260,8 @@ class WayTest(unittest.TestCase):
             self.assertIs(is_way(self.plan, [], (), value), is_one_of(value, [()]))
             self.assertIs(is_way(self.plan, [], value, value), is_one_of(value, self.plan.web.places()), repr(value))
         self.assertIs(is_way(self.plan, [], ("quay", 3), ("quay", 3)), False)
+        self.assertIs(is_way(self.plan, [], ("quay", 1), ("quay", True)), False)
+        self.assertIs(is_way(self.plan, [], ("quay", True), ("quay", 1)), False)
 
     def test_random_walks(self):
         luck = random.Random(3)
@@ -282,12 +283,7 @@ class WayTest(unittest.TestCase):
         self.assertGreater(min(seen.values()), 50)
 
 
-class RingTest(unittest.TestCase):
-    def raises(self, error, told, call):
-        with self.assertRaises(error) as caught:
-            call()
-        self.assertEqual(told_by(caught.exception), [repr(value) for value in told])
-
+class RingTest(Raising):
     def setUp(self):
         self.plan = Plan(small_web(), SMALL)
         self.ring = [(("buy", "quay", 0), 1), (("work", "dig"), 1), (("free", "quay", 2), 1)]
@@ -306,7 +302,7 @@ class RingTest(unittest.TestCase):
 
     def test_no_rings(self):
         rings = [
-            [], self.ring[:1], self.ring[:2], self.ring[1:], self.ring * 2, self.ring + self.ring[:1], list(reversed(self.ring)),
+            [], self.ring[:1], self.ring[:2], self.ring[1:], self.ring * 2, self.ring + self.ring[:1], self.ring[::-1],
             [(("hire", "men"), 1), (("buy", "quay", 0), -1)], [(("buy", "quay", 1), 1), (("buy", "quay", 1), -1)],
             [(("work", "dig"), 1), (("work", "dig"), -1)],
             [(("buy", "quay", 0), 1), (("free", "quay", 0), 1), (("buy", "hill", 0), 1), (("free", "hill", 0), 1)],

@@ -8,7 +8,7 @@ from standworth.errors import (
 from standworth.lands import Land
 from standworth.webs import Web
 from tests.samples import (
-    is_one_of, odd_values, small_askings, small_land, small_web, told_by, wide_askings, wide_given, wide_land, wide_web,
+    Raising, is_one_of, odd_values, small_askings, small_land, small_web, wide_askings, wide_given, wide_land, wide_web,
 )
 
 HOME = ()
@@ -37,12 +37,7 @@ def sheets_by_the_table(land, askings, since):
     return sorted((sheet for hour, sheet in sheets if hour >= since), key=lambda sheet: sheet[0])
 
 
-class WebTest(unittest.TestCase):
-    def raises(self, error, told, call):
-        with self.assertRaises(error) as caught:
-            call()
-        self.assertEqual(told_by(caught.exception), [repr(value) for value in told])
-
+class WebTest(Raising):
     def test_lines_of_a_small_web(self):
         web = Web(Land(1, 10, [("quay", 2, 5)]), [
             Work("dig", "ann", ("quay", 0), ("quay", 1), 1, 6), Hire("men", "bob", ("quay", 0), 4, 3),
@@ -92,8 +87,9 @@ class WebTest(unittest.TestCase):
 
     def test_no_web_without_hours_has_lines(self):
         web = Web(small_land(), small_askings(), given=[(("hill", 0), 1)], since=3)
-        self.assertEqual((web.places(), web.standings(), web.askings(), web.given(), web.owners()), ([()], [], [], [], []))
-        self.assertEqual((len(web), web.line_keys(), web.line_sheets(), web.lines_from(()), web.lines_to(())), (0, [], [], [], []))
+        self.assertEqual((web.places(), web.standings(), web.askings(), web.given()), ([()], [], [], []))
+        self.assertEqual((len(web), web.line_keys(), web.line_sheets(), web.owners()), (0, [], [], []))
+        self.assertEqual((web.lines_from(()), web.lines_to(())), ([], []))
         self.assertTrue(web)
         self.assertEqual(repr(web), "Web(0 standings, 0 lines)")
         self.assertEqual(len(Web(Land(8, 1, [("a", 0, None)]), since=9)), 0)
@@ -308,7 +304,8 @@ class WebTest(unittest.TestCase):
 
     def test_equality(self):
         web = small_web()
-        turned = Web(small_land(), tuple(reversed(small_askings())), given=[(("quay", 1), -1), (("hill", 0), 1), (("hill", 1), 0)])
+        given = [(("quay", 1), -1), (("hill", 0), 1), (("hill", 1), 0)]
+        turned = Web(small_land(), tuple(reversed(small_askings())), given=given)
         self.assertTrue(web == turned)
         first = small_askings()[0]
         others = [
@@ -316,6 +313,7 @@ class WebTest(unittest.TestCase):
             web.without("dig"), web.with_given(("quay", 2), 1), web.without("dig").with_asking(first.with_terms(3, 7)),
             Web(small_land(), small_askings(), given=web.given(), since=1),
         ]
+        self.assertFalse(Web(small_land(), since=1) == Web(small_land(), since=2))
         for other in others + [value for value in odd_values() if not isinstance(value, Web)]:
             self.assertIs(web == other, False)
             self.assertIs(web != other, True)

@@ -169,7 +169,8 @@ class WeekTest(unittest.TestCase):
         week = small_week()
         text = (
             "week 2 10\nyard hill 0 -\nyard quay 1 4\nroad quay hill 1 2\nhire men bob 0 quay 0 2 3\n"
-            "work mow cyd 0 hill 1 quay 2 1 9\nwork dig ann 1 quay 0 quay 2 3 6\ngiven hill 0 1\ngiven quay 1 -99\nend\n"
+            "work mow cyd 0 hill 1 quay 2 1 9\nwork dig ann 1 quay 0 quay 2 3 6\n"
+            "given hill 0 1\ngiven quay 1 -99\nend\n"
         )
         self.assertEqual(week.text(), text)
         self.assertTrue(Week.read(text) == week)
@@ -220,9 +221,10 @@ class WeekTest(unittest.TestCase):
         self.assertTrue(week == small_week())
         self.assertFalse(week != small_week())
         week.change("dig", 3, 7)
+        dearer = Land(2, 11, small_land().yards(), roads=small_land().roads())
         others = [
             week, Week(small_land(), small_askings()), Week(small_land()),
-            Week(Land(2, 11, small_land().yards(), roads=small_land().roads()), small_askings(), given=small_week().given()),
+            Week(dearer, small_askings(), given=small_week().given()),
         ]
         for other in others + odd_values() + [small_week().as_web()]:
             self.assertIs(small_week() == other, False)

@@ -13,6 +13,7 @@ ROADS = ["road hill quay 1 2", "road quay hill 8 0"]
 ASKINGS = ["work dig ann 0 quay 0 hill 4 3 999", "hire men bob 0 quay 0 2 50", "work aim ann 3 quay 0 quay 1 1 0"]
 GIVEN = ["given hill 0 99", "given quay 4 -99"]
 FULL = HEAD + ROADS + ASKINGS + GIVEN + ["end"]
+BAD_WORDS = ["", " ", "-", "+1", "01", "00", "1.0", "x1", "1x", "A", "a_b", "abcdefg", "1000000000", "\t"]
 WORDS = ("form", "many", "order", "double", "unknown", "top", "missing")
 
 
@@ -110,7 +111,7 @@ class WeekTextTest(unittest.TestCase):
             for word in good:
                 told = joined_lines(*ahead, " ".join(words[:at + 1] + [word] + words[at + 2:]))
                 self.wrong(told, len(ahead) + 1, "missing")
-            for word in bad + ["", " ", "-", "+1", "01", "00", "1.0", "x1", "1x", "A", "a_b", "abcdefg", "1000000000", "\t"]:
+            for word in bad + BAD_WORDS:
                 if word not in good:
                     self.wrong_behind(ahead, " ".join(words[:at + 1] + [word] + words[at + 2:]), "form")
         for other in (line + " ", " " + line, line + " 1", line.replace(" ", "  ", 1), line.rsplit(" ", 1)[0],
@@ -180,6 +181,8 @@ class WeekTextTest(unittest.TestCase):
             self.wrong_behind(HEAD + GIVEN[:1], line, "order")
         for line in ("given quay 4 1", "given quay 3 1", "given hill 4 1"):
             self.wrong_behind(HEAD + GIVEN, line, "order")
+        text = joined_lines(*HEAD, "given hill 0 1", "given hill 2 1", "given hill 4 1", "given quay 0 1", "end")
+        self.assertEqual(week_text(read_week(text)), text)
 
     def test_double(self):
         for line in ("hire dig bob 1 quay 0 1 1", "work dig bob 99 far 0 far 8 1 1", "hire dig bob 1 far 8 1 999"):
@@ -190,9 +193,9 @@ class WeekTextTest(unittest.TestCase):
         for line in ("road hill pier 1 1", "road pier hill 1 1", "road far near 1 1"):
             self.wrong_behind(HEAD, line, "unknown")
         for line in (
-            "work dig ann 0 far 0 hill 4 3 999", "work dig ann 0 hill 0 far 4 3 999", "work dig ann 0 hill 0 quay 5 3 999",
-            "work dig ann 0 hill 5 quay 6 3 999", "hire men bob 0 far 0 1 1", "hire men bob 0 quay 5 1 1",
-            "hire men bob 0 quay 8 1 999",
+            "work dig ann 0 far 0 hill 4 3 999", "work dig ann 0 hill 0 far 4 3 999",
+            "work dig ann 0 hill 0 quay 5 3 999", "work dig ann 0 hill 5 quay 6 3 999", "hire men bob 0 far 0 1 1",
+            "hire men bob 0 quay 5 1 1", "hire men bob 0 quay 8 1 999",
         ):
             self.wrong_behind(HEAD, line, "unknown")
         for line in ("given far 0 1", "given quay 5 1", "given quay 8 -99"):

@@ -53,7 +53,8 @@ class WordsTest(unittest.TestCase):
             ("buy", "a", 9), ("buy", "a", -1), ("buy", "a", True), ("free", "a", False), ("wait", "A", 0),
             ("walk", "a", "a", 0), ("walk", "a", "b", True), ("walk", "a", "b"), ("walk", "a", "b", 9),
             ("walk", "a", "b", 0, 0), ("walk", "a", ("b", 0)), ("walk", ["a"], "b", 0), ("hire", ""), ("hire", "a", 0),
-            ("work",), ("work", "a", 0), ("work", 5), ("rest", "a"), ("rest", "a", 0), ["buy", "a", 0], ("buy", "a"),
+            ("work",), ("work", "a", 0), ("work", 5), ("rest", "a"), ("rest", "a", 0), ("rest", "a", "b", 0),
+            ["buy", "a", 0], ("buy", "a"),
             ("buy", ("a", 0)), ("buy", "a", 0, 0), (None, "a"), (["work"], "a"), ("work", ["a"]), (), "work a", None,
         ])
         self.check_odd(is_key, [("wait", "quay", 8), ("work", "none")])
@@ -62,7 +63,8 @@ class WordsTest(unittest.TestCase):
         for text, number in [("0", 0), ("7", 7), ("10", 10), ("999999999", 999999999), ("120", 120)]:
             self.assertEqual(number_in(text), number)
             self.assertIs(type(number_in(text)), int)
-        for text in ["", "00", "01", "-1", "+1", " 1", "1 ", "1\n", "1000000000", "1.0", "a", "\u0661", "\u00b2", "1_0"]:
+        wrong = ["", "00", "01", "-1", "+1", " 1", "1 ", "1\n", "1000000000", "1.0", "a", "\u0661", "\u00b2", "1_0"]
+        for text in wrong:
             self.assertIsNone(number_in(text), repr(text))
         for value in odd_values():
             self.assertEqual(number_in(value), 7 if value == "7" else None, repr(value))

@@ -114,7 +114,7 @@ class WorthsTest(unittest.TestCase):
         self.assertEqual(repr(Worths(LOW)), "Worths(3 standings)")
 
     def test_met_and_joined(self):
-        rows = [Worths({("a", 0): 5, ("b", 1): 1}), Worths({("a", 0): 3, ("b", 1): 2}), Worths({("a", 0): 4, ("b", 1): 0})]
+        rows = [Worths({("a", 0): one, ("b", 1): other}) for one, other in [(5, 1), (3, 2), (4, 0)]]
         self.assertEqual(met(*rows).worths(), {("a", 0): 3, ("b", 1): 0})
         self.assertEqual(joined(*rows).worths(), {("a", 0): 5, ("b", 1): 2})
         self.assertEqual(met(rows[0]), rows[0])
