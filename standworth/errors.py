@@ -1,5 +1,9 @@
 """The errors of the package; each one is raised, and can be caught, by its name."""
 
+# No message tells the values, as Python writes no number of many thousand digits.
+
+from standworth.copies import copied
+
 
 class StandError(ValueError):
     """Something is not as it must be."""
@@ -9,72 +13,72 @@ class InvalidName(StandError):
     """A value is no name, or no habit, where one is asked."""
 
     def __init__(self, value):
-        super().__init__(f"{value!r} is no such name")
+        super().__init__("this is no such name")
         self.code = "InvalidName"
-        self.value = value
+        self.value = copied(value)
 
 
 class InvalidNumber(StandError):
     """A value is no number, or none within its bounds."""
 
     def __init__(self, value):
-        super().__init__(f"{value!r} is no such number")
+        super().__init__("this is no such number")
         self.code = "InvalidNumber"
-        self.value = value
+        self.value = copied(value)
 
 
 class InvalidStanding(StandError):
     """A value is no standing, or no place, where one is asked."""
 
     def __init__(self, value):
-        super().__init__(f"{value!r} is no such standing")
+        super().__init__("this is no such standing")
         self.code = "InvalidStanding"
-        self.value = value
+        self.value = copied(value)
 
 
 class InvalidKey(StandError):
     """A value is no key of a line."""
 
     def __init__(self, value):
-        super().__init__(f"{value!r} is no key")
+        super().__init__("this is no key")
         self.code = "InvalidKey"
-        self.value = value
+        self.value = copied(value)
 
 
 class InvalidYard(StandError):
     """The item at this index is no yard; -1 stands for the whole list."""
 
     def __init__(self, at):
-        super().__init__(f"no yard at {at!r}")
+        super().__init__("no yard stands there")
         self.code = "InvalidYard"
-        self.at = at
+        self.at = copied(at)
 
 
 class InvalidRoad(StandError):
     """The item at this index is no road; -1 stands for the whole list."""
 
     def __init__(self, at):
-        super().__init__(f"no road at {at!r}")
+        super().__init__("no road stands there")
         self.code = "InvalidRoad"
-        self.at = at
+        self.at = copied(at)
 
 
 class InvalidAsking(StandError):
     """The item at this index is no asking; -1 stands for the whole list."""
 
     def __init__(self, at):
-        super().__init__(f"no asking at {at!r}")
+        super().__init__("no asking stands there")
         self.code = "InvalidAsking"
-        self.at = at
+        self.at = copied(at)
 
 
 class InvalidGiven(StandError):
     """The item at this index tells no given crews; -1 stands for the whole list."""
 
     def __init__(self, at):
-        super().__init__(f"no given crews at {at!r}")
+        super().__init__("no given crews stand there")
         self.code = "InvalidGiven"
-        self.at = at
+        self.at = copied(at)
 
 
 class InvalidWorths(StandError):
@@ -113,27 +117,27 @@ class InvalidRota(StandError):
     """The item at this index is wrong for a rota; -1 stands for the whole list."""
 
     def __init__(self, at):
-        super().__init__(f"no rota at {at!r}")
+        super().__init__("no rota stands there")
         self.code = "InvalidRota"
-        self.at = at
+        self.at = copied(at)
 
 
 class InvalidEntry(StandError):
     """The item at this index is no entry; -1 stands for the whole list."""
 
     def __init__(self, at):
-        super().__init__(f"no entry at {at!r}")
+        super().__init__("no entry stands there")
         self.code = "InvalidEntry"
-        self.at = at
+        self.at = copied(at)
 
 
 class InvalidTie(StandError):
     """The item at this index is no tie; -1 stands for the whole list."""
 
     def __init__(self, at):
-        super().__init__(f"no tie at {at!r}")
+        super().__init__("no tie stands there")
         self.code = "InvalidTie"
-        self.at = at
+        self.at = copied(at)
 
 
 class InvalidOwed(StandError):
@@ -156,46 +160,46 @@ class InvalidDeed(StandError):
     """The value at this index is no deed; -1 stands for the whole list."""
 
     def __init__(self, at):
-        super().__init__(f"no deed at {at!r}")
+        super().__init__("no deed stands there")
         self.code = "InvalidDeed"
-        self.at = at
+        self.at = copied(at)
 
 
 class InvalidText(StandError):
     """This line of a text cannot stand there, for the reason why."""
 
     def __init__(self, line, why):
-        super().__init__(f"line {line!r} cannot stand: {why!s}")
+        super().__init__("a line cannot stand there")
         self.code = "InvalidText"
-        self.line = line
-        self.why = why
+        self.line = copied(line)
+        self.why = copied(why)
 
 
 class DuplicateName(StandError):
     """Two askings have this name."""
 
     def __init__(self, name):
-        super().__init__(f"{name!r} stands there already")
+        super().__init__("this name stands there already")
         self.code = "DuplicateName"
-        self.name = name
+        self.name = copied(name)
 
 
 class TooMany(StandError):
     """There are more than the most that may be."""
 
     def __init__(self, most):
-        super().__init__(f"more than {most!r}")
+        super().__init__("there are too many")
         self.code = "TooMany"
-        self.most = most
+        self.most = copied(most)
 
 
 class AboveTop(StandError):
     """The hire with this name has a price above the top."""
 
     def __init__(self, name):
-        super().__init__(f"the price of {name!r} is above the top")
+        super().__init__("this price is above the top")
         self.code = "AboveTop"
-        self.name = name
+        self.name = copied(name)
 
 
 class OtherStandings(StandError):
@@ -210,100 +214,100 @@ class OverRoom(StandError):
     """The amount of this line is above its room, or would be below 0."""
 
     def __init__(self, key):
-        super().__init__(f"no room on {key!r}")
+        super().__init__("this line has no room")
         self.code = "OverRoom"
-        self.key = key
+        self.key = copied(key)
 
 
 class Unbalanced(StandError):
     """At this standing crews appear or vanish."""
 
     def __init__(self, standing):
-        super().__init__(f"the crews at {standing!r} do not add up")
+        super().__init__("the crews there do not add up")
         self.code = "Unbalanced"
-        self.standing = standing
+        self.standing = copied(standing)
 
 
 class NotBest(StandError):
     """A plan is not best, as this ring shows."""
 
     def __init__(self, ring):
-        super().__init__(f"a ring gains: {ring!r}")
+        super().__init__("a ring gains")
         self.code = "NotBest"
-        self.ring = ring
+        self.ring = copied(ring)
 
 
 class NotFitting(StandError):
     """A row does not fit a plan, as this line shows."""
 
     def __init__(self, key):
-        super().__init__(f"{key!r} is a misfit")
+        super().__init__("this line is a misfit")
         self.code = "NotFitting"
-        self.key = key
+        self.key = copied(key)
 
 
 class NotReached(StandError):
     """A wanted gap lies outside of these bounds."""
 
     def __init__(self, least, greatest):
-        super().__init__(f"only from {least!r} to {greatest!r}")
+        super().__init__("it lies outside of the bounds")
         self.code = "NotReached"
-        self.least = least
-        self.greatest = greatest
+        self.least = copied(least)
+        self.greatest = copied(greatest)
 
 
 class NoRow(StandError):
     """No row keeps the ties, as this broken ring shows."""
 
     def __init__(self, ring):
-        super().__init__(f"a ring is broken: {ring!r}")
+        super().__init__("a ring is broken")
         self.code = "NoRow"
-        self.ring = ring
+        self.ring = copied(ring)
 
 
 class NotFlow(StandError):
     """At this standing amounts do not make a flow."""
 
     def __init__(self, standing):
-        super().__init__(f"no flow at {standing!r}")
+        super().__init__("this is no flow there")
         self.code = "NotFlow"
-        self.standing = standing
+        self.standing = copied(standing)
 
 
 class Uneven(StandError):
     """Entries add up to this, and not to 0."""
 
     def __init__(self, total):
-        super().__init__(f"the entries add up to {total!r}")
+        super().__init__("the entries do not add up to 0")
         self.code = "Uneven"
-        self.total = total
+        self.total = copied(total)
 
 
 class Occupied(StandError):
     """A transaction is in force for this key."""
 
     def __init__(self, key):
-        super().__init__(f"{key!r} has a transaction in force")
+        super().__init__("a transaction is in force")
         self.code = "Occupied"
-        self.key = key
+        self.key = copied(key)
 
 
 class NotReversible(StandError):
     """The transaction with this number cannot be reversed."""
 
     def __init__(self, number):
-        super().__init__(f"{number!r} cannot be reversed")
+        super().__init__("this cannot be reversed")
         self.code = "NotReversible"
-        self.number = number
+        self.number = copied(number)
 
 
 class Over(StandError):
     """It is about an hour that is over."""
 
     def __init__(self, at):
-        super().__init__(f"{at!r} is over")
+        super().__init__("this is over")
         self.code = "Over"
-        self.at = at
+        self.at = copied(at)
 
 
 class Missing(LookupError):
@@ -314,36 +318,36 @@ class UnknownName(Missing):
     """Nothing there has this name."""
 
     def __init__(self, name):
-        super().__init__(f"nothing is called {name!r}")
+        super().__init__("nothing is called so")
         self.code = "UnknownName"
-        self.name = name
+        self.name = copied(name)
 
 
 class UnknownStanding(Missing):
     """There is no such standing, or no such place."""
 
     def __init__(self, standing):
-        super().__init__(f"{standing!r} is not there")
+        super().__init__("this is not there")
         self.code = "UnknownStanding"
-        self.standing = standing
+        self.standing = copied(standing)
 
 
 class UnknownLine(Missing):
     """There is no line with this key."""
 
     def __init__(self, key):
-        super().__init__(f"no line has the key {key!r}")
+        super().__init__("no line has this key")
         self.code = "UnknownLine"
-        self.key = key
+        self.key = copied(key)
 
 
 class UnknownNumber(Missing):
     """Nothing there has this number."""
 
     def __init__(self, number):
-        super().__init__(f"nothing has the number {number!r}")
+        super().__init__("nothing has this number")
         self.code = "UnknownNumber"
-        self.number = number
+        self.number = copied(number)
 
 
 class NothingLeft(IndexError):

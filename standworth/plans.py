@@ -2,7 +2,7 @@
 
 from standworth.errors import InvalidAmounts, InvalidNumber, InvalidSteps, OverRoom, Unbalanced, UnknownLine
 from standworth.weblines import HOME
-from standworth.words import is_number, is_whole
+from standworth.words import is_number, is_whole, number_text
 
 
 def check_amounts(web, amounts):
@@ -93,7 +93,7 @@ class Plan:
         return True
 
     def __repr__(self):
-        return f"Plan(gain {self._gain})"
+        return f"Plan(gain {number_text(self._gain)})"
 
 
 def is_step(web, value):

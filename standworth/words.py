@@ -4,6 +4,9 @@ HABITS = ("least", "greatest", "middle")
 LETTERS = "abcdefghijklmnopqrstuvwxyz"
 DIGITS = "0123456789"
 LAST_HOUR = 8
+# Python writes no number of many thousand digits at once, so that longer ones than this are written in parts.
+PART = 1000000000000000000
+PART_DIGITS = 18
 
 
 def is_name(value):
@@ -55,6 +58,18 @@ def number_in(text):
     if len(text) > 1 and text[0] == "0":
         return None
     return int(text)
+
+
+def number_text(number):
+    """The digits of a number of any size, with the sign - ahead if it is below 0."""
+    rest = abs(number)
+    parts = []
+    while rest >= PART:
+        parts.append(str(rest % PART).zfill(PART_DIGITS))
+        rest = rest // PART
+    parts.append(str(rest))
+    sign = "-" if number < 0 else ""
+    return sign + "".join(reversed(parts))
 
 
 def is_account(value):

@@ -2,7 +2,12 @@ import inspect
 import unittest
 
 from standworth import errors
-from standworth.errors import Missing, NothingLeft, StandError
+from standworth.askings import Work
+from standworth.errors import InvalidName, Missing, NothingLeft, StandError
+from standworth.lands import Land
+from standworth.webs import Web
+from standworth.weeks import Week
+from tests.samples import is_one_of, small_land
 
 OF_STAND_ERROR = {
     "InvalidName": ["value"], "InvalidNumber": ["value"], "InvalidStanding": ["value"], "InvalidKey": ["value"],
@@ -42,11 +47,61 @@ class ErrorsTest(unittest.TestCase):
             made = getattr(errors, name)
             for error in (made(*told.values()), made(**told)):
                 self.assertEqual({param: getattr(error, param) for param in params}, told, name)
-                for param in params:
-                    self.assertIs(getattr(error, param), told[param], name)
                 self.assertEqual(error.code, name)
                 self.assertIsInstance(str(error), str)
             self.assertEqual(list(inspect.signature(made).parameters), params, name)
+
+    def test_other_values_are_told_as_they_are(self):
+        week = Week(small_land())
+        for name, params in ALL.items():
+            for value in [None, True, 1, "one", week, ("quay", True), (("quay", 1), False)]:
+                error = getattr(errors, name)(*([value] * len(params)))
+                for param in params:
+                    self.assertTrue(is_one_of(getattr(error, param), [value]), name)
+        self.assertIs(InvalidName(week).value, week)
+
+    def test_lists_and_dicts_are_copied(self):
+        for name, params in ALL.items():
+            for param in params:
+                inner, outer = [1], {"a": [2]}
+                told = [inner, (outer, inner), {("quay", 1): (inner,)}, [[outer]]]
+                values = {other: 5 for other in params}
+                values[param] = told
+                error = getattr(errors, name)(**values)
+                inner.append(3)
+                outer["a"].append(4)
+                outer["b"] = 5
+                told.append(6)
+                kept = [[1], ({"a": [2]}, [1]), {("quay", 1): ([1],)}, [[{"a": [2]}]]]
+                self.assertEqual(getattr(error, param), kept, name)
+
+    def test_raised_errors_copy(self):
+        name, key, place, number = ["quay"], ["buy"], {"quay": [0]}, [[1]]
+        land = small_land()
+        web = Web(land)
+        calls = [
+            (lambda: land.yard(name), "name", name), (lambda: web.line_sheet(key), "key", key),
+            (lambda: web.lines_from(place), "standing", place), (lambda: Land(number, 1, []), "value", number),
+            (lambda: Work(place, "ann", (), (), 0, 0), "value", place),
+        ]
+        for call, attribute, value in calls:
+            kept = repr(value)
+            with self.assertRaises((StandError, Missing)) as caught:
+                call()
+            if isinstance(value, dict):
+                value["quay"].append(1)
+            else:
+                value.append(1)
+            self.assertEqual(repr(getattr(caught.exception, attribute)), kept)
+
+    def test_numbers_of_any_size(self):
+        number = 7 * 10 ** 9000
+        for name, params in ALL.items():
+            for value in (number, -number, ("buy", "quay", number), [{"a": (number,)}]):
+                error = getattr(errors, name)(*([value] * len(params)))
+                self.assertTrue(all(getattr(error, param) == value for param in params), name)
+                self.assertIsInstance(str(error), str)
+                self.assertIsInstance(repr(error), str)
 
     def test_no_value_too_many_and_none_too_few(self):
         for name, params in ALL.items():

@@ -82,6 +82,14 @@ class PlanTest(Raising):
         plan = Plan(Web(small_land()), {("buy", "quay", 0): 4, ("wait", "quay", 0): 4, ("free", "quay", 1): 4})
         self.assertEqual((plan.gain, plan.begun, repr(plan)), (-44, 4, "Plan(gain -44)"))
 
+    def test_amounts_of_any_size(self):
+        web = Web(small_land())
+        for many in (10 ** 17, 10 ** 18, 10 ** 9000):
+            plan = Plan(web, {("buy", "quay", 0): many, ("free", "quay", 0): many})
+            self.assertTrue(plan.gain == -10 * many and plan.begun == many and plan.amount(("buy", "quay", 0)) == many)
+            self.assertEqual(repr(plan), "Plan(gain -1" + "0" * (len(repr(plan)) - 13) + ")")
+        self.assertEqual(len(repr(plan)), 9014)
+
     def test_wrong_amounts(self):
         web = small_web()
         for value in odd_values():
@@ -139,7 +147,7 @@ class PlanTest(Raising):
         for value in odd_values() + [("buy", "quay", True), ("buy", "quay", 3), ["work", "dig"]]:
             with self.assertRaises(UnknownLine) as caught:
                 plan.amount(value)
-            self.assertIs(caught.exception.key, value)
+            self.assertTrue(is_one_of(caught.exception.key, [value]), repr(value))
 
     def test_rest_steps(self):
         for web in (small_web(), wide_web(), wide_web(since=4)):

@@ -112,7 +112,7 @@ class WebTest(Raising):
         for value in odd_values() + ["dig", "men", "mo", ["mow"], ("mow",)]:
             with self.assertRaises(UnknownName) as caught:
                 web.asking(value)
-            self.assertIs(caught.exception.name, value)
+            self.assertTrue(is_one_of(caught.exception.name, [value]), repr(value))
 
     def test_given_crews(self):
         given = [(("quay", 2), 5), (("hill", 0), 1), (("quay", 1), -1000), (("hill", 2), 0)]
@@ -211,7 +211,7 @@ class WebTest(Raising):
             self.assertIs(web.has_line(value), False, repr(value))
             with self.assertRaises(UnknownLine) as caught:
                 web.line_sheet(value)
-            self.assertIs(caught.exception.key, value)
+            self.assertTrue(is_one_of(caught.exception.key, [value]), repr(value))
         for key in web.line_keys():
             self.assertIs(web.has_line(key=key), True)
         self.assertIs(Web(small_land(), small_askings(), since=1).has_line(("work", "dig")), False)
@@ -224,7 +224,7 @@ class WebTest(Raising):
             for call in (web.lines_from, web.lines_to):
                 with self.assertRaises(UnknownStanding) as caught:
                     call(value)
-                self.assertIs(caught.exception.standing, value)
+                self.assertTrue(is_one_of(caught.exception.standing, [value]), repr(value))
 
     def test_with_asking(self):
         first, second, third = small_askings()
@@ -258,7 +258,7 @@ class WebTest(Raising):
         for value in odd_values():
             with self.assertRaises(UnknownName) as caught:
                 web.without(value)
-            self.assertIs(caught.exception.name, value)
+            self.assertTrue(is_one_of(caught.exception.name, [value]), repr(value))
         self.raises(UnknownName, ["dig"], lambda: Web(small_land(), small_askings(), since=1).without("dig"))
 
     def test_with_given(self):

@@ -44,7 +44,7 @@ class WeekTest(unittest.TestCase):
                 self.assertEqual(week.given_at(value), 0)
             with self.assertRaises(UnknownName) as caught:
                 week.asking(value)
-            self.assertIs(caught.exception.name, value)
+            self.assertTrue(is_one_of(caught.exception.name, [value]), repr(value))
         self.assertEqual((Week.MOST, week.MOST), (24, 24))
 
     def test_errors_as_of_a_web(self):

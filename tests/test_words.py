@@ -1,7 +1,7 @@
 import unittest
 
 from standworth.words import (
-    HABITS, account_of, is_account, is_key, is_name, is_number, is_place, is_standing, number_in,
+    HABITS, account_of, is_account, is_key, is_name, is_number, is_place, is_standing, number_in, number_text,
 )
 from tests.samples import is_one_of, odd_values
 
@@ -68,6 +68,14 @@ class WordsTest(unittest.TestCase):
             self.assertIsNone(number_in(text), repr(text))
         for value in odd_values():
             self.assertEqual(number_in(value), 7 if value == "7" else None, repr(value))
+
+    def test_numbers_of_any_size_are_written(self):
+        ends = [10 ** many + more for many in (0, 1, 17, 18, 19, 35, 36, 37, 54, 600) for more in (-1, 0, 1)]
+        for number in ends + [123456789, 5 * 10 ** 18 + 7, 10 ** 36 + 10 ** 18, 98765432109876543210]:
+            self.assertEqual(number_text(number), str(number))
+            self.assertEqual(number_text(-number), str(-number))
+        self.assertEqual(number_text(-(10 ** 9000)), "-1" + "0" * 9000)
+        self.assertEqual(number_text(10 ** 9000 - 1), "9" * 9000)
 
     def test_accounts(self):
         self.check(is_account, ["", "ann", "abcdef", "quay 0", "quay 8"], [
