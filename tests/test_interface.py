@@ -15,7 +15,31 @@ FUNCTIONS = {
         "steps_cost(web, steps)", "is_way(plan, steps, start, end)", "is_ring(plan, steps)",
         "turned(plan, ring, many=1)",
     ],
+    "best": ["best_plan(web)", "best_gain(web)", "is_best(plan)", "better_ring(plan)", "judge(plan)"],
+    "fitting": [
+        "misfit(plan, row)", "fits(plan, row)", "ceiling(web, row)", "least_row(web)", "greatest_row(web)",
+        "middle_row(web)", "row_of(web, habit)", "ends(web)",
+    ],
+    "gaps": [
+        "gap(row, one, other)", "gap_range(web, one, other)", "row_with_gap(web, one, other, wanted)",
+        "least_way(plan, start, end)",
+    ],
+    "settled": ["settled_plan(web)"],
+    "ranges": ["amount_range(web, key)", "range_plans(web, key)", "fate(web, key)", "fate_witness(web, key)"],
+    "more": [
+        "one_more(web, standing, most=20)", "one_less(web, standing, most=20)", "gains_by_crews(web, name, most)",
+        "grown(plan, asking)", "shrunk(plan, name)",
+    ],
+    "rotas": [
+        "follows(web, rota)", "earnings(web, rota)", "trail(web, rota, row)", "parted(plan)",
+        "put_together(web, rotas)",
+    ],
+    "wishes": [
+        "second_sum(plan, seconds)", "second_plan(web, seconds)", "pair_row(web, seconds)",
+        "pair_misfit(plan, seconds, pairs)", "fewest_crews(web)",
+    ],
 }
+GENERATORS = ["more.one_more", "more.one_less", "rotas.trail"]
 CLASSES = {
     "worths.Worths": [
         "__init__(self, worths)", "worth(self, place)", "standings(self)", "worths(self)", "__and__(self, other)",
@@ -52,8 +76,20 @@ CLASSES = {
         "__init__(self, web, amounts)", "amounts(self)", "amount(self, key)", "rest_steps(self)", "__eq__(self, other)",
         "__len__(self)", "__repr__(self)",
     ],
+    "kept.Kept": [
+        "__init__(self, land, *, given=())", "put(self, asking)", "take_off(self, name)", "give(self, standing, many)",
+        "as_web(self)", "plan(self)", "row(self, habit='least')", "twin(self)", "__len__(self)", "__repr__(self)",
+    ],
+    "rotas.Rota": [
+        "__init__(self, lines, *, first=(), last=())", "lines(self)", "__eq__(self, other)", "__len__(self)",
+        "__repr__(self)",
+    ],
 }
-PROPERTIES = {"plans.Plan": ["gain", "begun"]}
+PROPERTIES = {"plans.Plan": ["gain", "begun"], "kept.Kept": ["gain", "many"]}
+ORDER = [
+    "errors", "words", "worths", "lands", "askings", "webs", "weeks", "weektexts", "plans", "best", "fitting", "gaps",
+    "settled", "ranges", "more", "kept", "rotas", "wishes",
+]
 
 
 def module_of(name):
@@ -97,10 +133,17 @@ class InterfaceTest(unittest.TestCase):
 
     def test_the_order_of_modules(self):
         """Each listed module needs only those above it, and modules that are not listed."""
-        order = ["errors", "words", "worths", "lands", "askings", "webs", "weeks", "weektexts", "plans"]
-        for at, name in enumerate(order):
+        for at, name in enumerate(ORDER):
             needed = self.all_needed(name)
-            self.assertEqual([other for other in order[at + 1:] if other in needed], [])
+            self.assertEqual([other for other in ORDER[at + 1:] if other in needed], [])
+
+    def test_generators(self):
+        """What the document calls a generator is one, and nothing else is."""
+        for module, signatures in FUNCTIONS.items():
+            for signature in signatures:
+                name = signature.split("(")[0]
+                found = inspect.isgeneratorfunction(getattr(module_of(module), name))
+                self.assertEqual(found, f"{module}.{name}" in GENERATORS, name)
 
     def all_needed(self, name):
         needed, open_names = set(), [name]
