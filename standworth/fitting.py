@@ -25,10 +25,10 @@ def ceiling(web, row):
     demand_row(web, row)
     total = sum([many * row.worth(standing) for standing, many in web.given()])
     for sheet in web.line_sheets():
-        dealt = max(0, line_gap(row, sheet) - sheet[4])
-        if dealt > 0 and sheet[3] is None:
-            return None
+        dealt = line_gap(row, sheet) - sheet[4]
         if dealt > 0:
+            if sheet[3] is None:
+                return None
             total += sheet[3] * dealt
     return total
 

@@ -6,17 +6,18 @@ class Net:
 
     The lines that are entered, with their amounts, must leave no ring over which crews could go at a cost below 0.
     Then there never is one, since crews are only led on ways with the least cost.
+
+    Places and steps have numbers. The line with the index n is taken from its start to its end by the step 2 * n, and
+    from its end to its start by the step 2 * n + 1. `_steps` has for each place the tuples (step, place to which it
+    leads, cost), and `_left` for each step the number of crews that it can still lead, or None for no bound.
     """
 
     def __init__(self, places):
         self._places = list(places)
         self._index = {place: at for at, place in enumerate(self._places)}
         self._lines = []
-        # The line with the number n is taken from its start by the step 2 * n, and from its end by the step behind it.
         self._first_steps = {}
-        # For each step the number of crews that can still be led over it; None stands for no bound.
         self._left = []
-        # For each place the tuples (step, place to which it leads, cost) of its steps.
         self._steps = [[] for _ in self._places]
         # A step counts as little as it can beside the costs, so that a shortest one of the least ways is found.
         self._scale = len(self._places) + 1
@@ -44,11 +45,8 @@ class Net:
         return {place: cost // self._scale for place, cost in pairs if cost is not None}
 
     def way(self, start, end):
-        """The pair of the cost and the list of the steps (key, sign) of a least way, or None."""
-        found = self._found_way(start, end)
-        if found is None:
-            return None
-        cost, steps = found
+        """The pair of the cost and the list of the steps (key, sign) of a least way; there must be a way."""
+        cost, steps = self._found_way(start, end)
         return (cost, [(self._lines[step // 2][0], 1 if step & 1 == 0 else -1) for step in steps])
 
     def lead(self, start, end, most, below=None):

@@ -36,7 +36,8 @@ def demand_row(web, row):
 def breaks(amount, room, gap, fee):
     """Whether an amount of a line does not fit a gap beside a fee; both may be pairs."""
     if gap > fee:
-        return room is None or amount != room
+        # No amount is the room of an endless line.
+        return amount != room
     return gap < fee and amount != 0
 
 

@@ -27,7 +27,7 @@ def fate(web, key):
     """The word for the amounts of a line in best plans: full, empty, steady or open."""
     room = web.line_sheet(key)[3]
     least, greatest = amount_range(web, key)
-    if room is not None and least == room:
+    if least == room:
         return "full"
     if greatest == 0:
         return "empty"
