@@ -3,6 +3,7 @@
 from standworth.errors import NotBest
 from standworth.planrows import greatest_of
 from standworth.plans import Plan, step_places, steps_cost
+from standworth.rings import ring_below
 from standworth.webnets import best_amounts, fees_of
 
 
@@ -25,32 +26,7 @@ def better_ring(plan):
     """A ring of a plan with a gain above 0, or None if the plan is best."""
     web = plan.web
     arcs = [(step, *step_places(web, step), steps_cost(web, [step])) for step in plan.rest_steps()]
-    costs = {place: 0 for place in web.places()}
-    reached = {}
-    changed = None
-    # Without such a ring nothing changes any more once there were as many rounds as places, and mostly far earlier.
-    for _ in web.places():
-        changed = None
-        for step, start, end, cost in arcs:
-            if costs[start] + cost < costs[end]:
-                costs[end] = costs[start] + cost
-                reached[end] = (start, step)
-                changed = end
-        if changed is None:
-            return None
-    return ring_behind(reached, changed)
-
-
-def ring_behind(reached, place):
-    """The ring to which it leads back to go from a place to the one from which it was reached, again and again."""
-    for _ in range(len(reached)):
-        place = reached[place][0]
-    ring = []
-    at = place
-    while len(ring) == 0 or at != place:
-        at, step = reached[at]
-        ring.append(step)
-    return list(reversed(ring))
+    return ring_below(web.places(), arcs)
 
 
 def demand_best(plan):

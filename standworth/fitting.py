@@ -2,7 +2,9 @@
 
 from standworth.best import best_plan
 from standworth.errors import InvalidName
-from standworth.planrows import breaks, demand_row, greatest_of, least_of, line_gap, row_by_habit
+from standworth.planrows import (
+    breaks, demand_row, given_worth, greatest_of, least_of, line_gap, most_dealt, row_by_habit,
+)
 from standworth.words import HABITS
 
 
@@ -23,14 +25,8 @@ def fits(plan, row):
 def ceiling(web, row):
     """What no plan of a web gains more than, by a row; None if the row tells nothing."""
     demand_row(web, row)
-    total = sum([many * row.worth(standing) for standing, many in web.given()])
-    for sheet in web.line_sheets():
-        dealt = line_gap(row, sheet) - sheet[4]
-        if dealt > 0:
-            if sheet[3] is None:
-                return None
-            total += sheet[3] * dealt
-    return total
+    dealt = most_dealt(web.line_sheets(), row)
+    return None if dealt is None else dealt + given_worth(web, row)
 
 
 def least_row(web):

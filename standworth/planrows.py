@@ -27,9 +27,9 @@ def row_by_habit(plan, habit):
     return least_of(plan).between(greatest_of(plan))
 
 
-def demand_row(web, row):
-    """Refuse any value that is no row over the standings of a web."""
-    if not isinstance(row, Worths) or row.standings() != web.standings():
+def demand_row(held, row):
+    """Refuse any value that is no row over the standings of a web, or of ties."""
+    if not isinstance(row, Worths) or row.standings() != held.standings():
         raise OtherStandings()
 
 
@@ -44,3 +44,20 @@ def breaks(amount, room, gap, fee):
 def line_gap(row, sheet):
     """The gap of a line at a row."""
     return row.worth(sheet[2]) - row.worth(sheet[1])
+
+
+def given_worth(web, row):
+    """The sum of given crews times worth over all standings."""
+    return sum([many * row.worth(standing) for standing, many in web.given()])
+
+
+def most_dealt(sheets, row):
+    """The sum of room times the part of gap minus fee above 0; None if some endless line has a gap above its fee."""
+    total = 0
+    for sheet in sheets:
+        dealt = line_gap(row, sheet) - sheet[4]
+        if dealt > 0:
+            if sheet[3] is None:
+                return None
+            total += sheet[3] * dealt
+    return total

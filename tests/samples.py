@@ -4,10 +4,12 @@ import random
 import unittest
 
 from standworth.askings import Hire, Work
+from standworth.books import Books
 from standworth.kept import Kept
 from standworth.lands import Land
 from standworth.plans import Plan
 from standworth.rotas import Rota
+from standworth.ties import Ties
 from standworth.webs import Web
 from standworth.weeks import Week
 from standworth.worths import Worths
@@ -88,6 +90,7 @@ def odd_values():
         Land(0, 1, [("quay", 0, None)]), Worths({}), Worths({("quay", 1): 1}),
         Work("dig", "ann", ("quay", 0), ("quay", 1), 1, 1), Hire("men", "ann", ("quay", 1), 1, 1),
         small_web(), Week(small_land()), Plan(Web(small_land()), {}), Kept(small_land()), Rota([("work", "dig")]),
+        Books(), Ties([("quay", 1)], 5),
     ]
 
 

@@ -3,6 +3,7 @@
 import unittest
 
 from standworth.askings import Hire, Work
+from standworth.dues import dues
 from standworth.errors import InvalidNumber
 from standworth.fitting import ends, least_row, middle_row
 from standworth.gaps import gap_range
@@ -26,6 +27,7 @@ class ExamplesTest(unittest.TestCase):
         self.assertEqual(plan.amounts(), {("free", "quay", 1): 1, ("hire", "men"): 1, ("work", "dig"): 1})
         self.assertEqual(ends(self.web), {("quay", 0): (3, 6), ("quay", 1): (0, 0)})
         self.assertEqual(middle_row(self.web).worths(), {("quay", 0): 4, ("quay", 1): 0})
+        self.assertEqual(dues(plan, middle_row(self.web)), {"": 0, "ann": 2, "bob": 1})
 
     def test_crews_more_and_less(self):
         self.assertEqual(list(one_more(self.web, ("quay", 0), 3)), [3, 0, 0])

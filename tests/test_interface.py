@@ -38,8 +38,14 @@ FUNCTIONS = {
         "second_sum(plan, seconds)", "second_plan(web, seconds)", "pair_row(web, seconds)",
         "pair_misfit(plan, seconds, pairs)", "fewest_crews(web)",
     ],
+    "dues": [
+        "line_due(plan, row, key)", "dues(plan, row)", "stock(web, row)", "wish(web, row, owner)",
+        "own_gain(web, owners)", "brings(web, owner)",
+    ],
+    "postings": ["line_entries(plan, row, key)", "posting(plan, row)"],
+    "ties": ["ties_of(web)"],
 }
-GENERATORS = ["more.one_more", "more.one_less", "rotas.trail"]
+GENERATORS = ["more.one_more", "more.one_less", "rotas.trail", "books.Books.statement"]
 CLASSES = {
     "worths.Worths": [
         "__init__(self, worths)", "worth(self, place)", "standings(self)", "worths(self)", "__and__(self, other)",
@@ -84,11 +90,22 @@ CLASSES = {
         "__init__(self, lines, *, first=(), last=())", "lines(self)", "__eq__(self, other)", "__len__(self)",
         "__repr__(self)",
     ],
+    "books.Books": [
+        "__init__(self)", "next_day(self)", "post(self, key, done, entries)", "take_back(self, number)",
+        "square(self, rows)", "record(self, number)", "in_force(self, key)", "keys_in_force(self)",
+        "balance(self, account, *, done=None, known=None)", "trial(self, *, done=None, known=None)",
+        "statement(self, account, *, done=None, known=None)", "twin(self)", "__len__(self)", "__repr__(self)",
+    ],
+    "ties.Ties": [
+        "__init__(self, standings, top, ties=())", "standings(self)", "ties(self)", "broken_tie(self, row)",
+        "keeps(self, row)", "broken_ring(self)", "least_kept(self)", "greatest_kept(self)", "__len__(self)",
+        "__repr__(self)",
+    ],
 }
-PROPERTIES = {"plans.Plan": ["gain", "begun"], "kept.Kept": ["gain", "many"]}
+PROPERTIES = {"plans.Plan": ["gain", "begun"], "kept.Kept": ["gain", "many"], "books.Books": ["day"]}
 ORDER = [
     "errors", "words", "worths", "lands", "askings", "webs", "weeks", "weektexts", "plans", "best", "fitting", "gaps",
-    "settled", "ranges", "more", "kept", "rotas", "wishes",
+    "settled", "ranges", "more", "kept", "rotas", "wishes", "dues", "books", "postings", "ties",
 ]
 
 
@@ -144,6 +161,11 @@ class InterfaceTest(unittest.TestCase):
                 name = signature.split("(")[0]
                 found = inspect.isgeneratorfunction(getattr(module_of(module), name))
                 self.assertEqual(found, f"{module}.{name}" in GENERATORS, name)
+        for path, signatures in CLASSES.items():
+            for signature in signatures:
+                name = signature.split("(")[0]
+                found = inspect.isgeneratorfunction(getattr(class_of(path), name))
+                self.assertEqual(found, f"{path}.{name}" in GENERATORS, name)
 
     def all_needed(self, name):
         needed, open_names = set(), [name]
