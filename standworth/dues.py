@@ -5,7 +5,6 @@ from standworth.errors import NotFitting, UnknownName
 from standworth.fitting import misfit
 from standworth.planrows import demand_row, given_worth, line_gap, most_dealt
 from standworth.weblines import TOWN
-from standworth.words import is_name
 
 
 def demand_fitting(plan, row):
@@ -17,7 +16,7 @@ def demand_fitting(plan, row):
 
 def demand_owner(web, owner):
     """Refuse any value that is no owner of an asking of a web."""
-    if not is_name(owner) or owner not in web.owners():
+    if owner not in web.owners():
         raise UnknownName(owner)
 
 

@@ -115,10 +115,24 @@ class WeekReader:
             self._askings.append(told_asking(kind, values))
 
 
-def with_count(reader, lines):
-    """The land, the askings and the given crews that a reader was told, with a number of lines."""
-    land, askings, given = reader.told()
-    return (land, askings, given, lines)
+def lines_taken(reader, text, first, alone):
+    """The number of lines of a text up to the one with which a reader is ended, taken in from an index on.
+
+    Behind that line nothing may stand if the text must be alone, and anything if not.
+    """
+    lines = text.split("\n")
+    rest = lines.pop()
+    for at in range(first, len(lines)):
+        why = reader.take(lines[at])
+        if why is not None:
+            raise InvalidText(at, why)
+        if reader.is_ended() and not alone:
+            return at + 1
+    if rest != "":
+        raise InvalidText(len(lines), "form")
+    if not reader.is_ended():
+        raise InvalidText(len(lines), "missing")
+    return len(lines)
 
 
 def read_parts(text, alone):
@@ -128,17 +142,7 @@ def read_parts(text, alone):
     """
     if not isinstance(text, str):
         raise InvalidText(0, "form")
-    lines = text.split("\n")
-    rest = lines.pop()
     reader = WeekReader()
-    for at, line in enumerate(lines):
-        why = reader.take(line)
-        if why is not None:
-            raise InvalidText(at, why)
-        if reader.is_ended() and not alone:
-            return with_count(reader, at + 1)
-    if rest != "":
-        raise InvalidText(len(lines), "form")
-    if not reader.is_ended():
-        raise InvalidText(len(lines), "missing")
-    return with_count(reader, len(lines))
+    lines = lines_taken(reader, text, 0, alone)
+    land, askings, given = reader.told()
+    return (land, askings, given, lines)

@@ -5,8 +5,11 @@ import unittest
 
 from standworth.askings import Hire, Work
 from standworth.books import Books
+from standworth.house import House
 from standworth.kept import Kept
 from standworth.lands import Land
+from standworth.led import Led
+from standworth.lending import Lending
 from standworth.plans import Plan
 from standworth.rotas import Rota
 from standworth.ties import Ties
@@ -90,7 +93,7 @@ def odd_values():
         Land(0, 1, [("quay", 0, None)]), Worths({}), Worths({("quay", 1): 1}),
         Work("dig", "ann", ("quay", 0), ("quay", 1), 1, 1), Hire("men", "ann", ("quay", 1), 1, 1),
         small_web(), Week(small_land()), Plan(Web(small_land()), {}), Kept(small_land()), Rota([("work", "dig")]),
-        Books(), Ties([("quay", 1)], 5),
+        Books(), Ties([("quay", 1)], 5), Lending(), Led(Week(small_land())), House(small_land()),
     ]
 
 

@@ -384,7 +384,7 @@ class BalanceTest(Raising):
         for value in odd_values() + [1000, -1, 10 ** 9]:
             if value is None or is_one_of(value, [0, 1, 8, 9]):
                 continue
-            for call in (lambda **told: books.balance(None, **told), books.trial,
+            for call in (lambda **told: books.balance(None, **told), books.trial, Books().trial,
                          lambda **told: list(books.statement(["ann"], **told))):
                 self.raises(InvalidNumber, [value], lambda: call(done=value, known=-5))
                 self.raises(InvalidNumber, [value], lambda: call(done=3, known=value))

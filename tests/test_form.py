@@ -230,6 +230,45 @@ class FormTest(unittest.TestCase):
                               for part in ast.walk(value.value) if isinstance(part, ast.Constant)]
                     self.assertFalse([part for part in within if isinstance(part.value, str)], f"{name} {node.lineno}")
 
+    def test_tables_are_only_read_where_they_stand(self):
+        """A dict at module level is asked by an index, by get or with in, and never passed on."""
+        for name, tree in trees():
+            tables = {
+                node.targets[0].id for node in tree.body
+                if isinstance(node, ast.Assign) and isinstance(node.value, (ast.Dict, ast.List))
+            }
+            asked, used = 0, 0
+            for node in ast.walk(tree):
+                if isinstance(node, ast.Compare) and isinstance(node.ops[0], (ast.In, ast.NotIn)):
+                    asked += sum(isinstance(each, ast.Name) and each.id in tables for each in node.comparators)
+                if isinstance(node, ast.Subscript) or isinstance(node, ast.Attribute) and node.attr == "get":
+                    asked += isinstance(node.value, ast.Name) and node.value.id in tables
+                used += isinstance(node, ast.Name) and isinstance(node.ctx, ast.Load) and node.id in tables
+            self.assertEqual(asked, used, name)
+
+    def test_what_stands_in_finally(self):
+        for name, tree in trees():
+            for node in ast.walk(tree):
+                if isinstance(node, ast.Try):
+                    for row in node.finalbody:
+                        self.assertIsInstance(row, ast.Assign, name)
+                        self.assertIsInstance(row.value, (ast.Constant, ast.Name, ast.Attribute), name)
+
+    def test_names_of_methods_properties_and_attributes(self):
+        """No name is a method of one class and an attribute or a property of another one."""
+        methods, properties, stored = set(), set(), set()
+        for _, tree in trees():
+            for each in ast.walk(tree):
+                if isinstance(each, ast.Attribute) and isinstance(each.ctx, ast.Store):
+                    stored.add(each.attr)
+                if isinstance(each, ast.ClassDef):
+                    for node in each.body:
+                        if isinstance(node, ast.FunctionDef):
+                            marks = [ast.unparse(mark) for mark in node.decorator_list]
+                            is_property = marks and marks[0] not in ("staticmethod", "classmethod")
+                            (properties if is_property else methods).add(node.name)
+        self.assertEqual((methods & properties, methods & stored, properties & stored), (set(), set(), set()))
+
     def test_lengths_and_truth(self):
         """What has a length may be 0 long, and is true all the same."""
         for name, tree in trees():

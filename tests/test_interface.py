@@ -44,6 +44,11 @@ FUNCTIONS = {
     ],
     "postings": ["line_entries(plan, row, key)", "posting(plan, row)"],
     "ties": ["ties_of(web)"],
+    "cover": [
+        "loss(owed, row)", "cover(ties, owed)", "worst_row(ties, owed)", "cover_flow(ties, owed)",
+        "flow_bound(ties, owed, flow)", "safe(ties, owed, money)",
+    ],
+    "papers": ["paper_text(plan, row)", "look(text)"],
 }
 GENERATORS = ["more.one_more", "more.one_less", "rotas.trail", "books.Books.statement"]
 CLASSES = {
@@ -101,11 +106,33 @@ CLASSES = {
         "keeps(self, row)", "broken_ring(self)", "least_kept(self)", "greatest_kept(self)", "__len__(self)",
         "__repr__(self)",
     ],
+    "lending.Lending": [
+        "__init__(self)", "lend(self, lender, borrower, standing, crews)", "give_back(self, number)",
+        "lay(self, camp, money)", "loans(self)", "camps(self)", "deposit(self, camp)", "position(self, camp)",
+        "need(self, camp, ties)", "gross_need(self, camp, ties)", "netted(self)", "called_in(self, camp, row)",
+        "twin(self)", "__len__(self)", "__repr__(self)",
+    ],
+    "led.Led": [
+        "__init__(self, week, *, habit='least')", "go(self)", "ask(self, asking)", "withdraw(self, name)",
+        "change(self, name, crews, price)", "give(self, standing, many)", "known(self)", "rest(self)", "plan(self)",
+        "row(self)", "lost(self)", "books(self)", "twin(self)", "__repr__(self)",
+    ],
+    "house.House": [
+        "__init__(self, land)", "choose(self, habit)", "do(self, *deeds)", "undo(self)", "redo(self)", "history(self)",
+        "tried(self, *deeds)", "square(self)", "next_day(self)", "week(self)", "books(self)", "plan(self)", "row(self)",
+        "say(self, line)", "__call__(self, line)", "log(self)", "journal(self)", "twin(self)", "__eq__(self, other)",
+        "__len__(self)", "__repr__(self)",
+    ],
 }
-PROPERTIES = {"plans.Plan": ["gain", "begun"], "kept.Kept": ["gain", "many"], "books.Books": ["day"]}
+PROPERTIES = {
+    "plans.Plan": ["gain", "begun"], "kept.Kept": ["gain", "many"], "books.Books": ["day"],
+    "led.Led": ["hour", "ended", "gain"], "house.House": ["many", "day", "busy", "habit"],
+}
+VALUES = {"lands.Land": {"YARDS": 6}, "weeks.Week": {"MOST": 24}, "house.House": {"FIRST": "least"}}
 ORDER = [
     "errors", "words", "worths", "lands", "askings", "webs", "weeks", "weektexts", "plans", "best", "fitting", "gaps",
     "settled", "ranges", "more", "kept", "rotas", "wishes", "dues", "books", "postings", "ties",
+    "cover", "lending", "led", "papers", "house",
 ]
 
 
@@ -142,8 +169,22 @@ class InterfaceTest(unittest.TestCase):
             for name in names:
                 self.assertIsInstance(vars(class_of(path))[name], property)
 
+    def test_class_values(self):
+        for path, values in VALUES.items():
+            for name, value in values.items():
+                self.assertEqual(vars(class_of(path))[name], value)
+
+    def test_what_can_be_assigned(self):
+        for path, names in PROPERTIES.items():
+            for name in names:
+                can_be = vars(class_of(path))[name].fset is not None
+                self.assertEqual(can_be, (path, name) == ("house.House", "habit"))
+
     def test_kinds_of_methods_and_classes(self):
         self.assertIsInstance(vars(class_of("weeks.Week"))["read"], staticmethod)
+        self.assertIsInstance(vars(class_of("house.House"))["played"], classmethod)
+        played = inspect.signature(class_of("house.House").played)
+        self.assertEqual(str(played), "(land, journal)")
         asking = class_of("askings.Asking")
         self.assertEqual(class_of("askings.Work").__bases__, (asking,))
         self.assertEqual(class_of("askings.Hire").__bases__, (asking,))
